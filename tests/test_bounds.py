@@ -81,6 +81,16 @@ class StillToBeRead(unittest.TestCase):
         self.assertEqual(error(quotes + "shift(" + "," * 1024 + ")"), 4)
         self.assertEqual(out(quotes + "shift(,,,)"), ",,")
 
+    def test_shift_just_met_and_passed(self):
+        text = "changequote(`" + "<" * 6551 + "',`>')shift(" + "," * 10 + ")"
+        self.assertEqual(error(text + "." * (65536 - 10 * 6552 - 9)), 0)
+        self.assertEqual(error(text + "." * (65537 - 10 * 6552 - 9)), 4)
+
+    def test_all_in_quotes_just_met_and_passed(self):
+        text = "define(`f',`$@')changequote(`<',`" + ">" * 6551 + "')f(" + "," * 9 + ")"
+        self.assertEqual(error(text + "." * (65536 - 10 * 6552 - 9)), 0)
+        self.assertEqual(error(text + "." * (65537 - 10 * 6552 - 9)), 4)
+
     def test_text_with_many_dollars(self):
         self.assertEqual(error("define(`f',`" + "$*" * 9000 + "')f(" + "a" * 9000 + ")"), 4)
 
@@ -186,6 +196,11 @@ class NamesAndTexts(unittest.TestCase):
         big = "define(`e'," + dots(self.ROOM - 17) + ")"
         found = runs(FOUR + big, big, "define(`f')", "define(`e',`.')define(`f')")
         self.assertEqual([answer[0] for answer in found], [0, 0, 4, 0])
+
+    def test_instead_of_the_latest_of_two(self):
+        text = FOUR + "pushdef(`e',`1234567')pushdef(`e',`123')define(`e'," + dots(self.ROOM - 17 - 24)
+        self.assertEqual(error(text + ")"), 0)
+        self.assertEqual(error(text + ".)"), 4)
 
     def test_many_small(self):
         count = (65536 - BUILT_IN - (1 + 13 + 16)) // 17

@@ -5,6 +5,12 @@ import unittest
 from tests.helper import error, full, out
 
 
+# From the weakest on.
+STRENGTHS = (("||",), ("&&",), ("|",), ("^",), ("&",), ("==", "!="), ("<=", ">=", "<", ">"), ("<<", ">>"),
+             ("+", "-"), ("*", "/", "%"))
+SIGNS = {sign: strength for strength, signs in enumerate(STRENGTHS) for sign in signs}
+
+
 def value(expression):
     return out("eval(`" + expression + "')")
 
@@ -34,6 +40,18 @@ class Eval(unittest.TestCase):
                     "64>>2>>1": 8, "64>>2<<1": 32, "3>2>1": 0, "1<2<=1": 1, "3==3==1": 1, "2==2!=1": 0,
                     "1-2+3": 2, "5!=4==1": 1})
 
+    def test_strength_of_each_two(self):
+        triples = [(left, middle, right) for left in (1, 2, 7) for middle in (1, 2, 5) for right in (1, 3)]
+        for first in SIGNS:
+            for second in SIGNS:
+                bracketed = "({0}{1}{2}){3}{4}" if SIGNS[first] >= SIGNS[second] else "{0}{1}({2}{3}{4})"
+                self.assertEqual(self.values("{0}{1}{2}{3}{4}", first, second, triples),
+                                 self.values(bracketed, first, second, triples), (first, second))
+
+    def values(self, form, first, second, triples):
+        parts = [form.format(left, first, middle, second, right) for left, middle, right in triples]
+        return out(" ".join("eval(`" + part + "')" for part in parts))
+
     def test_brackets(self):
         self.check({"(2+3)*4": 20, "((7))": 7, "-(2+3)": -5, "2*(3-(4-5))": 8, "!(1&&0)": 1, "~(0)": -1,
                     "( 1 ) + ( 2 )": 3})
@@ -55,7 +73,7 @@ class Eval(unittest.TestCase):
 
     def test_quotients_and_rests_towards_0(self):
         self.check({"7/2": 3, "-7/2": -3, "7/-2": -3, "-7/-2": 3, "7%2": 1, "-7%2": -1, "7%-2": 1, "-7%-2": -1,
-                    "1/2": 0, "-1/2": 0, "0/5": 0, "0%5": 0,
+                    "1/2": 0, "-1/2": 0, "-1/1": -1, "1/-1": -1, "-1/-1": 1, "0/5": 0, "0%5": 0,
                     "-9223372036854775808/-1": -2 ** 63, "-9223372036854775808%-1": 0,
                     "9223372036854775807/-1": -(2 ** 63 - 1), "-9223372036854775808/3": -3074457345618258602})
 

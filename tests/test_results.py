@@ -1,5 +1,6 @@
 """Promise 2, Results."""
 
+import itertools
 import unittest
 
 from tests.helper import ask, aside, error, full, out, run, told
@@ -189,12 +190,23 @@ class Strings(unittest.TestCase):
         self.assertEqual(out("index(abcabc,a) index(abcabc,bc) index(abcabc,ca) index(abcabc,x)"), "0 1 2 -1")
         self.assertEqual(out("index(abc,`') index(`',`') index(abc) index() index(`',a) index(ab,abc)"), "0 0 0 0 -1 -1")
         self.assertEqual(out("index(aabaaab,aaab) index(ababac,abac) index(aaa,aaa) index(abc,c,x)"), "3 2 0 2")
-        self.assertEqual(out("index(abacabab,abab) index(aabaabaaa,aabaaa)"), "4 3")
+        self.assertEqual(out("index(abacabab,abab) index(aabaabaaa,aabaaa) index(abacbacx,abacx)"), "4 3 -1")
+
+    def test_index_of_all_short_texts(self):
+        parts = ["".join(signs) for size in range(1, 5) for signs in itertools.product("ab", repeat=size)]
+        for part in parts:
+            rows = ["".join(signs) for signs in itertools.product("abc", repeat=5)]
+            text = " ".join("index({0},{1})".format(row, part) for row in rows)
+            self.assertEqual(out(text), " ".join(str(row.find(part)) for row in rows))
 
     def test_substr(self):
         self.assertEqual(out("substr(abcdef,2) substr(abcdef,2,3) substr(abcdef,0,1)"), "cdef cde a")
         self.assertEqual(out("[substr(abc,3)][substr(abc,4)][substr(abc,1,9)][substr(abc,1,0)]"), "[][][bc][]")
         self.assertEqual(out("[substr(abc,-1)][substr(abc,-1,2)][substr(abc,1,-1)][substr(abc,-9,-9)]"), "[][][][]")
+
+    def test_substr_does_not_count_from_behind(self):
+        self.assertEqual(out("[substr(abc,-1,5)][substr(abcdef,-2,1)][substr(abcdef,-2)]"), "[][][]")
+        self.assertEqual(out("[substr(abc,0,-1)][substr(abcdef,1,-2)]"), "[][]")
 
     def test_substr_of_fewer_and_more(self):
         self.assertEqual(out("[substr()][substr(abc)][substr(abc,)][substr(abc,1,)][substr(abc,1,1,x)]"), "[][abc][abc][][b]")
@@ -226,6 +238,10 @@ class Translit(unittest.TestCase):
         self.assertEqual(out("translit(aba,aba,123)"), "121")
         self.assertEqual(out("translit(ab,aab,1)"), "1")
 
+    def test_byte_0(self):
+        self.assertEqual(out("translit(`a\0b',a,x) translit(`.a.',a,\0)"), "x\0b .\0.")
+        self.assertEqual(out("translit(`a\0b',\0,x) translit(`a\0b',\0)"), "axb ab")
+
     def test_each_byte_once(self):
         self.assertEqual(out("translit(abc,abc,bca)"), "bca")
 
@@ -234,6 +250,7 @@ class Translit(unittest.TestCase):
         self.assertEqual(out("translit(abcde,a-e,e-a)"), "edcba")
         self.assertEqual(out("translit(abcde,e-a,1-5)"), "54321")
         self.assertEqual(out("translit(abcdx,xa-cy,0-9)"), "123d0")
+        self.assertEqual(out("translit(`@ABCD',C-A,1-3) translit(`@ABCD',A-C,1-3)"), "@321D @123D")
         self.assertEqual(out("translit(abc,a-a,b-b)"), "bbc")
         self.assertEqual(out("translit(a5,0-9,a-d)"), "a")
 

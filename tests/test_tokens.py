@@ -45,6 +45,10 @@ class Quotes(unittest.TestCase):
         self.assertEqual(full("changequote(<<,>>)<"), (0, "<", 8))
         self.assertEqual(runs("changequote(`<',`>\n')<a>")[0][0], 1)
         self.assertEqual(runs("changequote(`<\n',`>')<")[0], (0, "<", 6))
+        for byte in range(256):
+            if chr(byte) not in "`'<>":
+                self.assertEqual(full("changequote(`<" + chr(byte) + "',`>')<"), (0, "<", 6))
+                self.assertEqual(error("changequote(`<<',`>" + chr(byte) + "')<<a>"), 1)
 
     def test_closing_one_is_looked_for_first(self):
         self.assertEqual(full("changequote(|,|)|a|b|c|"), (0, "abc", 8))
